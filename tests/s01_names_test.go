@@ -77,6 +77,18 @@ func TestIsNameBytes(t *testing.T) {
 	}
 }
 
+// decimalNumbers are the edge numbers, all small numbers, and those around every change of length.
+func decimalNumbers() []int64 {
+	numbers := edgeNumbers()
+	for n := int64(-2000); n <= 2000; n++ {
+		numbers = append(numbers, n)
+	}
+	for n := int64(1); n <= math.MaxInt64/10; n *= 10 {
+		numbers = append(numbers, n-1, n, n+1, -n-1, -n, -n+1)
+	}
+	return numbers
+}
+
 func TestDecimal(t *testing.T) {
 	cases := map[int64]string{
 		0: "0", 7: "7", -7: "-7", 10: "10", -120: "-120", 1000000000: "1000000000", 1000000001: "1000000001", -1000000001: "-1000000001",
@@ -87,14 +99,7 @@ func TestDecimal(t *testing.T) {
 			t.Errorf("Decimal(%d) is %q, not %q", n, got, want)
 		}
 	}
-	numbers := edgeNumbers()
-	for n := int64(-1100); n <= 1100; n++ {
-		numbers = append(numbers, n)
-	}
-	for n := int64(1); n <= math.MaxInt64/10; n *= 10 {
-		numbers = append(numbers, n-1, n, n+1, -n-1, -n, -n+1)
-	}
-	for _, n := range numbers {
+	for _, n := range decimalNumbers() {
 		if got, want := impl.Decimal(n), big.NewInt(n).String(); got != want {
 			t.Errorf("Decimal(%d) is %q", n, got)
 		}
@@ -102,14 +107,7 @@ func TestDecimal(t *testing.T) {
 }
 
 func TestReadDecimalOfDecimal(t *testing.T) {
-	numbers := edgeNumbers()
-	for n := int64(-2000); n <= 2000; n++ {
-		numbers = append(numbers, n)
-	}
-	for n := int64(1); n <= math.MaxInt64/10; n *= 10 {
-		numbers = append(numbers, n-1, n, n+1, -n-1, -n, -n+1)
-	}
-	for _, n := range numbers {
+	for _, n := range decimalNumbers() {
 		within := n >= -1000000000 && n <= 1000000000
 		want := n
 		if !within {
