@@ -2,9 +2,7 @@ package tests
 
 import (
 	"fmt"
-	"slices"
 	"strings"
-	"sync"
 	"testing"
 
 	"loop.example/g01081/impl"
@@ -58,37 +56,7 @@ func basicsTexts() []string {
 	return texts
 }
 
-// resultsOf makes the calls in the order of their indices, or backwards, and keeps the results by index.
-// A call that panics fails the test where it stands.
-func resultsOf(calls []func() string, backwards bool) []string {
-	results := make([]string, len(calls))
-	for i := range calls {
-		if backwards {
-			i = len(calls) - 1 - i
-		}
-		results[i] = calls[i]()
-	}
-	return results
-}
-
-// TestBasicsPure makes all calls again in another order and at the same time: only the arguments may matter.
+// TestBasicsPure makes all calls again.
 func TestBasicsPure(t *testing.T) {
-	calls := basicsCalls()
-	want := resultsOf(calls, false)
-	rounds := make([][]string, 8)
-	var group sync.WaitGroup
-	for i := range rounds {
-		group.Go(func() { rounds[i] = resultsOf(calls, i%2 == 0) })
-	}
-	group.Wait()
-	for _, got := range append(rounds, resultsOf(calls, true)) {
-		if slices.Equal(got, want) {
-			continue
-		}
-		for i := range want {
-			if got[i] != want[i] {
-				t.Fatalf("call %d returned %q and then %q", i, want[i], got[i])
-			}
-		}
-	}
+	checkPure(t, basicsCalls())
 }

@@ -4,7 +4,6 @@ import (
 	"fmt"
 	"slices"
 	"strings"
-	"sync"
 	"testing"
 
 	"loop.example/g01081/impl"
@@ -97,28 +96,14 @@ func setCalls(sets []impl.TileSet) []func() string {
 	return calls
 }
 
-// TestSetsPure makes all calls again in another order and at the same time, with equal sets in the same and in other memory: only the arguments may matter.
+// TestSetsPure makes all calls again, also with equal sets in other memory.
 func TestSetsPure(t *testing.T) {
 	sets := argumentSets()
 	var copies []impl.TileSet
 	for _, set := range sets {
 		copies = append(copies, copySet(set))
 	}
-	want := resultsOf(setCalls(sets), false)
-	rounds := make([][]string, 4)
-	var group sync.WaitGroup
-	for i := range rounds {
-		group.Go(func() { rounds[i] = resultsOf(setCalls(sets), i%2 == 0) })
-	}
-	group.Wait()
-	rounds = append(rounds, resultsOf(setCalls(sets), true), resultsOf(setCalls(copies), false), resultsOf(setCalls(argumentSets()), true))
-	for _, got := range rounds {
-		for i := range want {
-			if got[i] != want[i] {
-				t.Fatalf("call %d returned %q and then %q", i, want[i], got[i])
-			}
-		}
-	}
+	checkPure(t, setCalls(sets), setCalls(copies), setCalls(argumentSets()))
 }
 
 // TestSetsUnchanged checks after each call that no set has changed, not even in its unused capacity.
@@ -173,26 +158,6 @@ func newSetCalls(a, b impl.TileSet) []func() (impl.TileSet, []int64) {
 	return calls
 }
 
-// piece is a slice of a result: it can be written over with its unused capacity, restored, and shown.
-type piece struct {
-	write, restore func()
-	show           func() string
-}
-
-func pieceOf[T any](slice []T, junk T) piece {
-	whole := slice[:cap(slice)]
-	saved := slices.Clone(whole)
-	return piece{
-		write: func() {
-			for i := range whole {
-				whole[i] = junk
-			}
-		},
-		restore: func() { copy(whole, saved) },
-		show:    func() string { return fmt.Sprint(slice) },
-	}
-}
-
 // piecesOf are all slices of a result.
 func piecesOf(set impl.TileSet, list []int64) []piece {
 	tiles := pieceOf(set.Tiles, impl.Tile{Name: "junk"})
@@ -219,29 +184,8 @@ func TestSetsShareNoMemory(t *testing.T) {
 		for _, b := range []impl.TileSet{pairSet(), roomySet(drawSet(uint64(i)))} {
 			for j, call := range newSetCalls(a, b) {
 				result, list := call()
-				checkPieces(t, fmt.Sprintf("call %d with %v and %v", j, a, b), piecesOf(result, list), a, b)
+				checkPieces(t, fmt.Sprintf("call %d with %v and %v", j, a, b), piecesOf(result, list), watch(a, b))
 			}
 		}
-	}
-}
-
-func checkPieces(t *testing.T, what string, pieces []piece, a, b impl.TileSet) {
-	t.Helper()
-	unchanged := watch(a, b)
-	var before []string
-	for _, p := range pieces {
-		before = append(before, p.show())
-	}
-	for i, p := range pieces {
-		p.write()
-		if !unchanged() {
-			t.Fatalf("%s: slice %d shares memory with an argument", what, i)
-		}
-		for j, other := range pieces {
-			if j != i && other.show() != before[j] {
-				t.Fatalf("%s: slices %d and %d share memory", what, i, j)
-			}
-		}
-		p.restore()
 	}
 }
